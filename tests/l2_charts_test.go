@@ -617,26 +617,32 @@ func TestChartFunctionsChangeNoArgument(t *testing.T) {
 	}
 }
 
+// checkSeparate writes a mark, which none of the results holds, to each of them, over all of its memory, and checks that no other one changes.
+func checkSeparate[T comparable](t *testing.T, results [][]T, mark T) {
+	t.Helper()
+	for i, written := range results {
+		var kept [][]T
+		for _, list := range results {
+			kept = append(kept, slices.Clone(list))
+		}
+		for k := range written[:cap(written)] {
+			written[:cap(written)][k] = mark
+		}
+		for j, list := range results {
+			if j != i && !slices.Equal(list, kept[j]) {
+				t.Fatalf("results %d and %d share memory: %v becomes %v", i, j, kept[j], list)
+			}
+		}
+	}
+}
+
 // Whatever is written to one result, over all of its memory, neither another one nor an argument changes.
 func TestChartResultsAreSeparate(t *testing.T) {
 	for _, c := range allSizes(12) {
 		part := chartOf("f")
 		givenC, givenPart := cloneChart(c), cloneChart(part)
 		results := append(chartResults(c, part), chartResults(c, part)...)
-		for i, written := range results {
-			var kept [][]int
-			for _, knots := range results {
-				kept = append(kept, slices.Clone(knots))
-			}
-			for k := range written[:cap(written)] {
-				written[:cap(written)][k] = -1 - i
-			}
-			for j, knots := range results {
-				if j != i && !slices.Equal(knots, kept[j]) {
-					t.Errorf("results %d and %d of %v share memory", i, j, givenC)
-				}
-			}
-		}
+		checkSeparate(t, results, -1)
 		if !sameChart(c, givenC) || !sameChart(part, givenPart) {
 			t.Errorf("%v has become %v, or the part %v", givenC, c, part)
 		}

@@ -828,20 +828,7 @@ func TestColorResultsAreSeparate(t *testing.T) {
 	for _, card := range mixedCards()[2:] {
 		given := slices.Clone(card)
 		results := append(colorResults(card), colorResults(card)...)
-		for i, written := range results {
-			var kept [][]int
-			for _, ids := range results {
-				kept = append(kept, slices.Clone(ids))
-			}
-			for k := range written[:cap(written)] {
-				written[:cap(written)][k] = -1 - i
-			}
-			for j, ids := range results {
-				if j != i && !slices.Equal(ids, kept[j]) {
-					t.Fatalf("results %d and %d of %v share memory", i, j, card)
-				}
-			}
-		}
+		checkSeparate(t, results, -1)
 		if !slices.Equal(card, given) {
 			t.Errorf("%v has become %v", given, card)
 		}

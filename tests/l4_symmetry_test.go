@@ -547,20 +547,7 @@ func TestSymmetryResultsAreSeparate(t *testing.T) {
 	for _, c := range evenCharts() {
 		given := cloneChart(c)
 		results := append(symmetryResults(c), symmetryResults(c)...)
-		for i, written := range results {
-			var kept [][]int
-			for _, list := range results {
-				kept = append(kept, slices.Clone(list))
-			}
-			for k := range written[:cap(written)] {
-				written[:cap(written)][k] = -1 - i
-			}
-			for j, list := range results {
-				if j != i && !slices.Equal(list, kept[j]) {
-					t.Errorf("results %d and %d of %v share memory", i, j, given)
-				}
-			}
-		}
+		checkSeparate(t, results, -1)
 		if !sameChart(c, given) {
 			t.Errorf("%v has become %v", given, c)
 		}
